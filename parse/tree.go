@@ -89,11 +89,12 @@ func Size(p api.Program) (int, int) {
 	return statements, expressions
 }
 
+// size counts what stands in a statement's lists whatever its kind, as parts does with Kids: which lists are blocks matters to Deep alone.
 func size(l []api.Stmt) (int, int) {
 	statements, expressions := len(l), 0
 	for _, s := range l {
 		expressions += parts(s.E)
-		for _, b := range blocks(s) {
+		for _, b := range [2][]api.Stmt{s.Body, s.Else} {
 			n, k := size(b)
 			statements += n
 			expressions += k

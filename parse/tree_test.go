@@ -141,22 +141,52 @@ func TestSize(t *testing.T) {
 	}
 }
 
-// 3.3: of trees made by hand the kinds say which blocks there are.
+// 3.3: of trees made by hand Size counts all that is there, whatever the kinds; the kinds say which blocks there are, to Deep alone.
 func TestSizeByHand(t *testing.T) {
-	inner := []api.Stmt{{Kind: api.StmtSkip}, {Kind: api.StmtPrint, E: []api.Expr{{}, {Kids: []api.Expr{{}}}}}}
-	for kind := range api.StmtKind(255) {
-		has := kind == api.StmtIf || kind == api.StmtWhile || kind == api.StmtLock
-		for _, s := range []api.Stmt{{Kind: kind}, {Kind: kind, Body: inner}, {Kind: kind, Else: inner}} {
-			p := api.Program{Threads: []api.Thread{{}, {Body: []api.Stmt{s}}}}
-			want := [3]int{1, 0, 1}
-			if has {
-				want[2] = 2
+	two := []api.Stmt{{Kind: api.StmtSkip}, {Kind: api.StmtPrint, E: []api.Expr{{}, {Kids: []api.Expr{{}}}}}}
+	one := []api.Stmt{{E: []api.Expr{{Kind: 99}}}}
+	for n := range 256 {
+		kind := api.StmtKind(n)
+		deep := 1
+		if kind == api.StmtIf || kind == api.StmtWhile || kind == api.StmtLock {
+			deep = 2
+		}
+		for _, x := range []struct {
+			s    api.Stmt
+			n, k int
+		}{
+			{api.Stmt{}, 1, 0},
+			{api.Stmt{E: one[0].E}, 1, 1},
+			{api.Stmt{Body: two}, 3, 3},
+			{api.Stmt{Else: two}, 3, 3},
+			{api.Stmt{Body: one, Else: two}, 4, 4},
+			{api.Stmt{Body: two, Else: one, E: two[1].E}, 4, 7},
+		} {
+			x.s.Kind = kind
+			p := api.Program{Threads: []api.Thread{{}, {Body: []api.Stmt{x.s}}}}
+			if n, k := parse.Size(p); n != x.n || k != x.k || parse.Deep(p) != deep {
+				t.Errorf("%v: %d statements, %d expressions, %d deep", x.s, n, k, parse.Deep(p))
 			}
-			if has && len(s.Body)+len(s.Else) > 0 {
-				want[0], want[1] = 3, 3
-			}
-			if n, k := parse.Size(p); n != want[0] || k != want[1] || parse.Deep(p) != want[2] {
-				t.Errorf("kind %d: %d statements, %d expressions, %d deep", kind, n, k, parse.Deep(p))
+		}
+	}
+}
+
+// 3.3: a statement without blocks hides from Deep what stands in it, and from Size nothing.
+func TestSizeWithoutBlocks(t *testing.T) {
+	inner := []api.Stmt{{Kind: api.StmtLock, Body: []api.Stmt{{Kind: api.StmtIf, E: []api.Expr{{}}, Else: []api.Stmt{{Kind: api.StmtSkip}}}}}}
+	for _, kind := range []api.StmtKind{api.StmtNone, api.StmtAssign, api.StmtSwap, api.StmtPrint, api.StmtSkip, api.StmtCount, 255} {
+		for _, x := range []struct {
+			s    api.Stmt
+			n, k int
+		}{
+			{api.Stmt{Kind: kind, Body: inner}, 4, 1},
+			{api.Stmt{Kind: kind, Else: inner}, 4, 1},
+			{api.Stmt{Kind: kind, Body: inner, Else: inner[0].Body}, 6, 2},
+			{api.Stmt{Kind: kind, Body: []api.Stmt{{Else: inner}}}, 5, 1},
+		} {
+			p := api.Program{Threads: []api.Thread{{Body: []api.Stmt{x.s}}}}
+			if n, k := parse.Size(p); n != x.n || k != x.k || parse.Deep(p) != 1 {
+				t.Errorf("%v: %d statements, %d expressions, %d deep", x.s, n, k, parse.Deep(p))
 			}
 		}
 	}
