@@ -7,6 +7,7 @@ import (
 	"slices"
 	"strings"
 	"testing"
+	"time"
 
 	"stile/api"
 	"stile/cfg"
@@ -347,7 +348,7 @@ func TestAlways(t *testing.T) {
 		if runtime.NumGoroutine() <= ahead {
 			return
 		}
-		runtime.Gosched()
+		time.Sleep(time.Millisecond)
 	}
 	t.Error("goroutines are left")
 }

@@ -8,6 +8,7 @@ import (
 	"runtime"
 	"slices"
 	"testing"
+	"time"
 	"unsafe"
 
 	"stile/api"
@@ -535,7 +536,7 @@ func TestAlways(t *testing.T) {
 		if runtime.NumGoroutine() <= ahead {
 			return
 		}
-		runtime.Gosched()
+		time.Sleep(time.Millisecond)
 	}
 	t.Error("goroutines are left")
 }

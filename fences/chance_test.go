@@ -6,6 +6,7 @@ import (
 	"runtime"
 	"slices"
 	"testing"
+	"time"
 
 	"stile/api"
 	"stile/cfg"
@@ -375,7 +376,7 @@ func TestAlways(t *testing.T) {
 		if runtime.NumGoroutine() <= before {
 			return
 		}
-		runtime.Gosched()
+		time.Sleep(time.Millisecond)
 	}
 	t.Error("goroutines are left")
 }

@@ -6,6 +6,7 @@ import (
 	"runtime"
 	"slices"
 	"testing"
+	"time"
 
 	"stile/api"
 	"stile/cfg"
@@ -495,7 +496,7 @@ func TestAlways(t *testing.T) {
 		if runtime.NumGoroutine() <= before {
 			return
 		}
-		runtime.Gosched()
+		time.Sleep(time.Millisecond)
 	}
 	t.Error("goroutines are left")
 }

@@ -5,6 +5,7 @@ import (
 	"runtime"
 	"strings"
 	"testing"
+	"time"
 
 	"stile/api"
 	"stile/lexer"
@@ -351,7 +352,7 @@ func TestAlways(t *testing.T) {
 		if runtime.NumGoroutine() <= ahead {
 			return
 		}
-		runtime.Gosched()
+		time.Sleep(time.Millisecond)
 	}
 	t.Error("goroutines are left")
 }

@@ -6,6 +6,7 @@ import (
 	"slices"
 	"strings"
 	"testing"
+	"time"
 
 	"stile/api"
 	"stile/parse"
@@ -338,7 +339,7 @@ func TestAlways(t *testing.T) {
 		if runtime.NumGoroutine() <= ahead {
 			return
 		}
-		runtime.Gosched()
+		time.Sleep(time.Millisecond)
 	}
 	t.Error("goroutines are left")
 }

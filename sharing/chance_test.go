@@ -8,6 +8,7 @@ import (
 	"slices"
 	"strings"
 	"testing"
+	"time"
 
 	"stile/api"
 	"stile/cfg"
@@ -466,7 +467,7 @@ func TestAlways(t *testing.T) {
 		if runtime.NumGoroutine() <= before {
 			return
 		}
-		runtime.Gosched()
+		time.Sleep(time.Millisecond)
 	}
 	t.Error("goroutines are left")
 }

@@ -6,6 +6,7 @@ import (
 	"runtime"
 	"strings"
 	"testing"
+	"time"
 
 	"stile/api"
 	"stile/words"
@@ -433,7 +434,7 @@ func TestAlways(t *testing.T) {
 		if runtime.NumGoroutine() <= ahead {
 			return
 		}
-		runtime.Gosched()
+		time.Sleep(time.Millisecond)
 	}
 	t.Error("goroutines are left")
 }
