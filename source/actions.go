@@ -56,7 +56,7 @@ func (m *Machine) unlock(n api.Node, _ *api.Acted) { m.holders[n.Thing] = nobody
 
 func (m *Machine) print(n api.Node, did *api.Acted) {
 	did.Word = m.value(did.Thread, n.A)
-	m.last = m.last.then(api.Print{Thread: did.Thread, Word: did.Word})
+	m.said = m.said.Then(api.Print{Thread: did.Thread, Word: did.Word})
 }
 
 func (m *Machine) branch(n api.Node, did *api.Acted) {

@@ -3,34 +3,8 @@ package source
 import (
 	"strings"
 
-	"stile/api"
 	"stile/words"
 )
-
-// said is a print, with those ahead of it (nil: none): copies go on from the same one, which never changes.
-type said struct {
-	ahead *said
-	print api.Print
-	count int
-}
-
-func (s *said) then(p api.Print) *said { return &said{ahead: s, print: p, count: s.length() + 1} }
-
-func (s *said) length() int {
-	if s == nil {
-		return 0
-	}
-	return s.count
-}
-
-// list is all that was printed, in order.
-func (s *said) list() []api.Print {
-	l := make([]api.Print, s.length())
-	for ; s != nil; s = s.ahead {
-		l[s.count-1] = s.print
-	}
-	return l
-}
 
 // write writes the situation's text.
 func (m *Machine) write(b *strings.Builder) {
@@ -49,7 +23,7 @@ func (m *Machine) write(b *strings.Builder) {
 		writeWord(b, int64(thread))
 	}
 	b.WriteByte('|')
-	for _, p := range m.last.list() {
+	for _, p := range m.said.All() {
 		b.WriteString(words.Print(int64(p.Thread)))
 		b.WriteByte(':')
 		writeWord(b, p.Word)
