@@ -3,35 +3,25 @@ package explore
 import (
 	"stile/api"
 	"stile/source"
+	"stile/walk"
 )
 
-// ending is an end, and the number of the situation that was found first of those that are it.
-type ending struct {
-	end api.End
-	at  int
-}
-
-// mark is an end by the numbers of its parts.
-type mark struct {
-	memory, prints int
-	ended          bool
-}
-
-// endings are all ends, each once, in the order in which they are found.
-func endings(u api.Unit, most int) ([]ending, *walk, api.Errno) {
-	var l []ending
-	seen := map[mark]int{}
-	w, why := through(u, most, func(s situation) {
-		if !isOver(s.machine, len(u.Graphs)) {
-			return
-		}
-		is := mark{s.parts.memory, s.parts.prints, s.machine.Ended()}
-		seen[is]++
-		if seen[is] == 1 {
-			l = append(l, ending{endOf(s.machine), s.at})
+// endings are all ends of a unit, and the walk that came to them.
+func endings(u api.Unit, most int) (*walk.Ends, walked, api.Errno) {
+	l := walk.NewEnds()
+	w, why := through(u, most, func(number int, s situation) {
+		if isOver(s.machine, len(u.Graphs)) {
+			l.Add(s.mark(), number, func() api.End { return endOf(s.machine) })
 		}
 	})
 	return l, w, why
+}
+
+// mark is a text of what makes a situation another end than others.
+func (s situation) mark() string {
+	b := walk.Append(nil, s.parts.memory)
+	b = walk.Append(b, s.parts.prints)
+	return string(walk.Append(b, ended(api.End{Ended: s.machine.Ended()})))
 }
 
 // isOver tells whether no thread can step.

@@ -5,6 +5,7 @@ import (
 	"strings"
 
 	"stile/api"
+	"stile/line"
 	"stile/words"
 )
 
@@ -53,19 +54,19 @@ type textReader struct {
 func (x *textReader) object(s string) (int, bool) {
 	at := 0
 	for number := 0; number < 2 || at < len(s); number++ {
-		line, _, isWhole := strings.Cut(s[at:], "\n")
-		if !isWhole || !x.line(number, line) {
+		text, _, isWhole := strings.Cut(s[at:], "\n")
+		if !isWhole || !x.line(number, text) {
 			return at, false
 		}
-		at += len(line) + 1
+		at += len(text) + 1
 	}
 	return 0, true
 }
 
 // line reads a line, by its number; false, if it is not as it must be there.
-func (x *textReader) line(number int, line string) bool {
-	p := &parts{rest: line, more: true}
-	first := p.next()
+func (x *textReader) line(number int, text string) bool {
+	p := parts{line.New(text)}
+	first := p.Next()
 	switch {
 	case number == 0:
 		return first == "object" && x.head(p)
@@ -77,40 +78,40 @@ func (x *textReader) line(number int, line string) bool {
 	return len(x.o.Cores) > 0 && x.instruction(first, p)
 }
 
-func (x *textReader) head(p *parts) bool {
+func (x *textReader) head(p parts) bool {
 	for _, n := range [...]*int{&x.o.Shared, &x.o.Locks, &x.o.Buffer} {
-		p.number(n)
+		p.Number(n)
 	}
-	return p.areDone()
+	return p.Done()
 }
 
-func (x *textReader) memory(p *parts) bool {
-	for p.more {
+func (x *textReader) memory(p parts) bool {
+	for p.More() {
 		var w int64
-		p.word(&w)
+		p.Word(&w)
 		x.o.Memory = kept(x.o.Memory, w, api.MaxMemory)
 	}
-	return p.areDone()
+	return p.Done()
 }
 
-func (x *textReader) core(p *parts) bool {
-	name := strings.Clone(p.next())
+func (x *textReader) core(p parts) bool {
+	name := strings.Clone(p.Next())
 	x.o.Cores = kept(x.o.Cores, api.Core{Name: name}, api.MaxThreads)
-	return p.areDone()
+	return p.Done()
 }
 
-func (x *textReader) instruction(word string, p *parts) bool {
+func (x *textReader) instruction(word string, p parts) bool {
 	i, is := begun(word)
 	if !is {
 		return false
 	}
-	hand{p.register, p.number, p.word}.visit(&i)
-	if p.more {
+	hand{p.register, p.Number, p.Word}.visit(&i)
+	if p.More() {
 		p.origin(&i.From)
 	}
 	c := &x.o.Cores[len(x.o.Cores)-1]
 	c.Code = kept(c.Code, i, api.MaxCode)
-	return p.areDone()
+	return p.Done()
 }
 
 // kept is a list with one more; but one that is longer already than it may be stays as it is.

@@ -370,6 +370,40 @@ func TestFork(t *testing.T) {
 	}
 }
 
+// P18.1, P18.6: memories of all sizes: what one of two forks writes, wherever that is, is written there alone, and in that one alone.
+func TestMemory(t *testing.T) {
+	for _, size := range []int{1, 2, 31, 32, 33, 63, 64, 65, 1000, api.MaxMemory - 1, api.MaxMemory} {
+		o := api.Object{Buffer: 1, Memory: make([]int64, size), Cores: []api.Core{{Name: "a"}, {Name: "b"}}}
+		places := []int{0, size / 2, size - 1, min(31, size-1), min(32, size-1)}
+		for at := range o.Memory {
+			o.Memory[at] = int64(at * at)
+		}
+		for i, at := range places {
+			o.Cores[0].Code = append(o.Cores[0].Code, api.Instr{Kind: api.InstrSet, Word: int64(-i - 1)}, api.Instr{Kind: api.InstrSwap, Addr: at})
+			o.Cores[1].Code = append(o.Cores[1].Code, api.Instr{Kind: api.InstrSet, Word: int64(-i - 9)}, api.Instr{Kind: api.InstrStore, Addr: at}, api.Instr{Kind: api.InstrLoad, D: 1, Addr: at})
+		}
+		for i := range o.Cores {
+			o.Cores[i].Code = append(o.Cores[i].Code, api.Instr{Kind: api.InstrHalt})
+		}
+		m := ahead(t, o)
+		f, want, wantFork := m.Fork(), slices.Clone(o.Memory), slices.Clone(o.Memory)
+		for i, at := range places {
+			runs(t, m, 0, 1)
+			did(t, m, run(0), api.Did{Kind: api.DidSwap, At: 2*i + 1, Addr: at, Word: want[at], Put: int64(-i - 1)})
+			runs(t, f, 1, 2)
+			did(t, f, drain(1), api.Did{Kind: api.DidDrain, Core: 1, At: 3*i + 1, Addr: at, Word: int64(-i - 9)})
+			did(t, f, run(1), api.Did{Kind: api.DidLoad, Core: 1, At: 3*i + 2, Addr: at, Word: int64(-i - 9)})
+			want[at], wantFork[at] = int64(-i-1), int64(-i-9)
+			if is, isFork := m.Memory(), f.Memory(); !slices.Equal(is, want) || !slices.Equal(isFork, wantFork) {
+				t.Fatal(size, i, at, "has another word")
+			}
+		}
+		if is := m.Fork().Memory(); !slices.Equal(is, want) {
+			t.Fatal(size, "a fork of what was written")
+		}
+	}
+}
+
 // P18.1: objects that may not be are none; those that hardly may.
 func TestNew(t *testing.T) {
 	for _, spoil := range []func(o *api.Object){

@@ -41,7 +41,7 @@ func (m *Machine) load(c *core, i api.Instr, did *api.Did) {
 	did.Addr = i.Addr
 	did.Word, did.Own = c.newest(i.Addr)
 	if !did.Own {
-		did.Word = m.memory[i.Addr]
+		did.Word = m.memory.at(i.Addr)
 	}
 	c.Regs[i.D] = did.Word
 }
@@ -52,8 +52,9 @@ func (m *Machine) store(c *core, i api.Instr, did *api.Did) {
 }
 
 func (m *Machine) swap(c *core, i api.Instr, did *api.Did) {
-	did.Addr, did.Word, did.Put = i.Addr, m.memory[i.Addr], c.Regs[i.D]
-	c.Regs[i.D], m.memory[i.Addr] = did.Word, did.Put
+	did.Addr, did.Word, did.Put = i.Addr, m.memory.at(i.Addr), c.Regs[i.D]
+	c.Regs[i.D] = did.Word
+	m.memory.put(i.Addr, did.Put)
 }
 
 // fence has nothing to do, once the core need not wait for it any more.
