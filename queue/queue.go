@@ -1,4 +1,4 @@
-// Package queue hands out numbers, of nodes or slots that are still to be looked at, in an order that whoever makes a queue tells.
+// Package queue hands out numbers, of nodes, slots or events that are still to be looked at, in an order that whoever makes a queue tells.
 package queue
 
 import "container/heap"
