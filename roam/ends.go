@@ -1,4 +1,4 @@
-package explore
+package roam
 
 import (
 	"stile/api"
@@ -6,10 +6,10 @@ import (
 	"stile/walk"
 )
 
-// endings are all ends of a unit, and the walk that came to them.
-func endings(u api.Unit, most int) (*walk.Ends, walked, api.Errno) {
+// Ends are all ends of a unit, and the walk that came to them.
+func Ends(u api.Unit, most int) (*walk.Ends, Walk, api.Errno) {
 	l := walk.NewEnds()
-	w, why := through(u, most, func(number int, s situation) {
+	w, why := Through(u, most, func(number int, s Situation) {
 		if isOver(s.machine, len(u.Graphs)) {
 			l.Add(s.mark(), number, func() api.End { return endOf(s.machine) })
 		}
@@ -18,10 +18,13 @@ func endings(u api.Unit, most int) (*walk.Ends, walked, api.Errno) {
 }
 
 // mark is a text of what makes a situation another end than others.
-func (s situation) mark() string {
+func (s Situation) mark() string {
 	b := walk.Append(nil, s.parts.memory)
 	b = walk.Append(b, s.parts.prints)
-	return string(walk.Append(b, ended(api.End{Ended: s.machine.Ended()})))
+	if s.machine.Ended() {
+		b = append(b, '.')
+	}
+	return string(b)
 }
 
 // isOver tells whether no thread can step.
